@@ -1,0 +1,130 @@
+"""Webs and other things to ask about, and plain walks to hold the answers against."""
+
+from itertools import combinations
+
+SIXTY = int("7" * 60)
+
+
+def all_pairs(n):
+    return list(combinations(range(n), 2))
+
+
+def web_of(n, pairs):
+    return (n, tuple(sorted(set(pairs))))
+
+
+def loose(n):
+    return web_of(n, [])
+
+
+def whole(n):
+    return web_of(n, all_pairs(n))
+
+
+def ring(n):
+    return web_of(n, [tuple(sorted((i, (i + 1) % n))) for i in range(n) if n > 1])
+
+
+def halves(n):
+    return web_of(n, [(a, b) for a, b in all_pairs(n) if a % 2 != b % 2])
+
+
+def star(n):
+    return web_of(n, [(0, b) for b in range(1, n)])
+
+
+def mixed(n, seed):
+    """A web without any pattern, the same one each time."""
+    pairs = []
+    state = seed * 7919 + n
+    for pair in all_pairs(n):
+        state = (state * 1103515245 + 12345) % 2147483648
+        if state // 65536 % 8 < 2 + seed % 5:
+            pairs.append(pair)
+    return web_of(n, pairs)
+
+
+def shapes(n):
+    """Webs of n places: without ties, all tied, rings and others."""
+    return [loose(n), whole(n), ring(n), halves(n), star(n)] + [mixed(n, seed) for seed in range(5)]
+
+
+def all_webs(n):
+    """Each web of n places."""
+    pairs = all_pairs(n)
+    return [web_of(n, some) for many in range(len(pairs) + 1) for some in combinations(pairs, many)]
+
+
+def webs_up_to(n):
+    return [web for many in range(n + 1) for web in all_webs(many)]
+
+
+def walked_webs():
+    """All webs of at most five places and others of at most ten, few enough to walk over all their sets of places."""
+    shaped = [web for n in range(11) for web in shapes(n)]
+    return webs_up_to(5) + shaped + [(n, tuple(sorted(set(all_pairs(n)) - set(ties)))) for n, ties in shaped]
+
+
+def are_tied(web, a, b):
+    return (a, b) in web[1] or (b, a) in web[1]
+
+
+def plain_knots(web):
+    """All knots, by a walk over all sets of places."""
+    sets = [some for many in range(web[0] + 1) for some in combinations(range(web[0]), many)]
+    return [some for some in sets if all(are_tied(web, a, b) for a, b in combinations(some, 2))]
+
+
+def plain_full_knots(web):
+    knots = plain_knots(web)
+    return sorted(knot for knot in knots if not any(set(knot) < set(other) for other in knots))
+
+
+def plain_counted(web):
+    sizes = [len(knot) for knot in plain_knots(web)]
+    return [sizes.count(many) for many in range(max(sizes) + 1)]
+
+
+def within(depth, core, make):
+    for _ in range(depth):
+        core = make(core)
+    return core
+
+
+def oddities():
+    """Things of every kind that "of anything" speaks of, twenty within one another at most."""
+    deep = [within(19, core, make)
+            for core in ((), [], 0, True, None, "0", SIXTY, (0, 1), (1, ()))
+            for make in (lambda x: (x,), lambda x: [x], lambda x: (2, x), lambda x: (x, 1), lambda x: [x, x][:1])]
+    return deep + [
+        None, True, False, -1, 0, 1, 2, 24, 25, SIXTY, -SIXTY, "", "0", "01", "web", "(0, ())",
+        [], [0], [0, 1], [0, []], [2, [[0, 1]]], [0, ()], [None], ["0"], [True],
+        ("",), ("0",), ("0", "1"), (None,), (None, None), (SIXTY,), (-SIXTY,), (0, SIXTY), (SIXTY, ()),
+        (-SIXTY, ()), ((),), ([],), ((0,),), ((0, 1),), (0, "1"), ("0", 1), (0, None), (None, 0), ((0, 1), 2),
+        (0, (1,)), (0, [1]), (0, 1, None), (0, 1, "2"), (0, 1, ()), "a" * 1000,
+    ]
+
+
+ATOMS = (-1, 0, 1, 2, True, False, None, "", "0", "01", SIXTY, -SIXTY, (), [], (0, 1), [0, 1], (0,), ((0, 1),))
+
+
+def spoiled(thing):
+    """All things that are one small step away from a thing: another value somewhere within, a tuple made
+    a list, one part fewer, one twice, two exchanged."""
+    found = list(ATOMS)
+    if not isinstance(thing, (tuple, list)):
+        return found
+    parts = list(thing)
+    found.append(parts)
+    for i in range(len(parts)):
+        found.append(tuple(parts[:i] + parts[i + 1:]))
+        found.append(tuple(parts[:i + 1] + parts[i:]))
+        for other in spoiled(parts[i]):
+            found.append(tuple(parts[:i] + [other] + parts[i + 1:]))
+        for j in range(i):
+            swapped = list(parts)
+            swapped[i], swapped[j] = parts[j], parts[i]
+            found.append(tuple(swapped))
+    for atom in ATOMS:
+        found.append(tuple(parts + [atom]))
+    return found

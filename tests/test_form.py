@@ -1,0 +1,149 @@
+"""The form that the package's files keep to: a small part of Python, the same under 3.11 and 3.13."""
+
+import ast
+import re
+import unittest
+from pathlib import Path
+
+PACKAGE = Path(__file__).resolve().parent.parent / "tiefold"
+
+OWN_NAMES = set("""len range enumerate zip min max sum abs sorted reversed int str bool list tuple dict set frozenset
+    isinstance ord repr any all divmod Exception ValueError TypeError KeyError IndexError LookupError
+    ZeroDivisionError ArithmeticError OverflowError RuntimeError NotImplementedError StopIteration""".split())
+
+METHODS = set("""append clear copy count endswith extend find get index insert isalnum isalpha isdigit islower isspace
+    isupper items join keys ljust lower lstrip partition pop remove replace reverse rfind rjust rpartition rsplit
+    rstrip setdefault split splitlines startswith strip update upper values zfill bit_length""".split())
+
+NODES = (ast.Module, ast.ImportFrom, ast.alias, ast.FunctionDef, ast.ClassDef, ast.arguments, ast.arg, ast.Assign,
+         ast.AugAssign, ast.If, ast.While, ast.For, ast.Return, ast.Break, ast.Continue, ast.Pass, ast.Raise, ast.Try,
+         ast.ExceptHandler, ast.Expr, ast.Constant, ast.List, ast.Tuple, ast.Dict, ast.Set, ast.BinOp, ast.UnaryOp,
+         ast.BoolOp, ast.Compare, ast.IfExp, ast.Call, ast.keyword, ast.Attribute, ast.Subscript, ast.Slice,
+         ast.ListComp, ast.comprehension, ast.JoinedStr, ast.FormattedValue, ast.Lambda, ast.Name, ast.expr_context,
+         ast.boolop, ast.operator, ast.unaryop, ast.cmpop)
+
+WORDS = re.compile(r"\b(type|typing|typing_extensions|enum|Enum|IntEnum|StrEnum|Flag|IntFlag|Generic|Protocol|ABC"
+                   r"|ABCMeta|namedtuple|NamedTuple|TypedDict|TYPE_CHECKING|abstractmethod)\b"
+                   r"|dataclass|overload|contextmanager")
+
+
+def files():
+    return sorted(PACKAGE.rglob("*.py"))
+
+
+def trees():
+    return [(path.name, ast.parse(path.read_text())) for path in files()]
+
+
+def bound_names(tree):
+    names = set()
+    for node in ast.walk(tree):
+        if isinstance(node, (ast.FunctionDef, ast.ClassDef)):
+            names.add(node.name)
+        elif isinstance(node, ast.arg):
+            names.add(node.arg)
+        elif isinstance(node, ast.alias):
+            names.add(node.asname or node.name)
+        elif isinstance(node, ast.Name) and isinstance(node.ctx, ast.Store):
+            names.add(node.id)
+        elif isinstance(node, ast.ExceptHandler) and node.name:
+            names.add(node.name)
+    return names
+
+
+class Form(unittest.TestCase):
+    def test_nothing_but_plain_files_in_the_package(self):
+        self.assertTrue((PACKAGE / "__init__.py").is_file())
+        for path in PACKAGE.iterdir():
+            if path.name != "__pycache__":
+                self.assertRegex(path.name, r"^(__init__|__main__|[a-z][a-z0-9_]*)\.py$")
+                self.assertNotRegex(path.name, r"^(test|tests|testing|test_.*|site|conftest)\.py$")
+
+    def test_sizes_and_signs(self):
+        for path in files():
+            rows = path.read_text().split("\n")
+            self.assertLessEqual(len(rows), 400, path.name)
+            for at, row in enumerate(rows, 1):
+                self.assertLessEqual(len(row), 120, (path.name, at))
+                self.assertRegex(row, r"^[ -~]*$", (path.name, at))
+                self.assertNotRegex(row, WORDS, (path.name, at))
+
+    def test_functions_have_at_most_forty_lines(self):
+        for name, tree in trees():
+            for node in ast.walk(tree):
+                if isinstance(node, ast.FunctionDef):
+                    self.assertLessEqual(node.end_lineno - node.lineno + 1, 40, (name, node.name))
+                    self.assertEqual(node.decorator_list, [], (name, node.name))
+                    self.assertIsNone(node.args.vararg or node.args.kwarg, (name, node.name))
+                    self.assertEqual(node.args.kwonlyargs + node.args.posonlyargs, [], (name, node.name))
+
+    def test_the_top_of_a_module(self):
+        for name, tree in trees():
+            for node in tree.body[1:]:
+                self.assertIsInstance(node, (ast.ImportFrom, ast.FunctionDef, ast.ClassDef, ast.Assign), name)
+            self.assertIsNotNone(ast.get_docstring(tree), name)
+
+    def test_imports_are_the_packages_own(self):
+        for name, tree in trees():
+            for node in ast.walk(tree):
+                if isinstance(node, ast.ImportFrom):
+                    self.assertIn(node, tree.body, name)
+                    self.assertEqual(node.level, 0, name)
+                    self.assertTrue(node.module.startswith("tiefold."), (name, node.module))
+                    self.assertNotIn("*", [alias.name for alias in node.names], name)
+
+    def test_statements_and_expressions(self):
+        for name, tree in trees():
+            for node in ast.walk(tree):
+                at = (name, getattr(node, "lineno", 0))
+                self.assertIsInstance(node, NODES, at)
+                self.assertNotIsInstance(node, (ast.Div, ast.MatMult), at)
+                if isinstance(node, ast.Constant):
+                    self.assertIn(type(node.value), (int, str, bool, type(None)), at)
+                if isinstance(node, (ast.For, ast.While)):
+                    self.assertEqual(node.orelse, [], at)
+                if isinstance(node, ast.Assign):
+                    self.assertEqual(len(node.targets), 1, at)
+                    self.assertNotIsInstance(node.targets[0], (ast.Tuple, ast.List), at)
+                if isinstance(node, ast.ListComp):
+                    self.assertEqual(len(node.generators), 1, at)
+                    self.assertLessEqual(len(node.generators[0].ifs), 1, at)
+                if isinstance(node, ast.Expr) and node is not tree.body[0]:
+                    self.assertIsInstance(node.value, ast.Call, at)
+                if isinstance(node, ast.Compare) and any(isinstance(op, (ast.Is, ast.IsNot)) for op in node.ops):
+                    self.assertIsInstance(node.comparators[0], ast.Constant, at)
+
+    def test_names(self):
+        for name, tree in trees():
+            bound = bound_names(tree)
+            for word in sorted(bound - {"__init__", "__eq__", "__repr__", "__str__", "__len__"}):
+                self.assertRegex(word, r"^[A-Za-z][A-Za-z0-9_]*$", name)
+            self.assertEqual(bound & set(dir(__builtins__) if not isinstance(__builtins__, dict) else __builtins__),
+                             set(), name)
+            for node in ast.walk(tree):
+                if isinstance(node, ast.Name):
+                    self.assertIn(node.id, bound | OWN_NAMES, (name, node.lineno))
+
+    def test_names_of_a_files_top_are_bound_once(self):
+        for name, tree in trees():
+            top = []
+            for node in tree.body:
+                if isinstance(node, (ast.FunctionDef, ast.ClassDef)):
+                    top.append(node.name)
+                elif isinstance(node, ast.ImportFrom):
+                    top.extend(alias.asname or alias.name for alias in node.names)
+                elif isinstance(node, ast.Assign):
+                    top.append(node.targets[0].id)
+            self.assertEqual(len(top), len(set(top)), name)
+
+    def test_methods(self):
+        for name, tree in trees():
+            own = {node.name for cls in ast.walk(tree) if isinstance(cls, ast.ClassDef) for node in cls.body
+                   if isinstance(node, ast.FunctionDef)}
+            for node in ast.walk(tree):
+                if isinstance(node, ast.Call) and isinstance(node.func, ast.Attribute):
+                    self.assertIn(node.func.attr, METHODS | own, (name, node.lineno))
+
+
+if __name__ == "__main__":
+    unittest.main()
