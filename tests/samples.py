@@ -1,4 +1,4 @@
-"""Webs and other things to ask about, and plain walks to hold the answers against."""
+"""Webs and other things to ask about."""
 
 from itertools import combinations
 
@@ -33,6 +33,11 @@ def star(n):
     return web_of(n, [(0, b) for b in range(1, n)])
 
 
+def clumps(n):
+    """A web in parts: threes of places all tied, and no tie from one part to another."""
+    return web_of(n, [(a, b) for a, b in all_pairs(n) if a // 3 == b // 3])
+
+
 def mixed(n, seed):
     """A web without any pattern, the same one each time."""
     pairs = []
@@ -45,8 +50,8 @@ def mixed(n, seed):
 
 
 def shapes(n):
-    """Webs of n places: without ties, all tied, rings and others."""
-    return [loose(n), whole(n), ring(n), halves(n), star(n)] + [mixed(n, seed) for seed in range(5)]
+    """Webs of n places: without ties, all tied, rings, parts and others."""
+    return [loose(n), whole(n), ring(n), halves(n), star(n), clumps(n)] + [mixed(n, seed) for seed in range(5)]
 
 
 def all_webs(n):
@@ -59,30 +64,14 @@ def webs_up_to(n):
     return [web for many in range(n + 1) for web in all_webs(many)]
 
 
-def walked_webs():
-    """All webs of at most five places and others of at most ten, few enough to walk over all their sets of places."""
-    shaped = [web for n in range(11) for web in shapes(n)]
+def walked_webs(most_places):
+    """All webs of at most five places and others of at most so many, few enough to walk over all sets of places."""
+    shaped = [web for n in range(most_places + 1) for web in shapes(n)]
     return webs_up_to(5) + shaped + [(n, tuple(sorted(set(all_pairs(n)) - set(ties)))) for n, ties in shaped]
 
 
 def are_tied(web, a, b):
     return (a, b) in web[1] or (b, a) in web[1]
-
-
-def plain_knots(web):
-    """All knots, by a walk over all sets of places."""
-    sets = [some for many in range(web[0] + 1) for some in combinations(range(web[0]), many)]
-    return [some for some in sets if all(are_tied(web, a, b) for a, b in combinations(some, 2))]
-
-
-def plain_full_knots(web):
-    knots = plain_knots(web)
-    return sorted(knot for knot in knots if not any(set(knot) < set(other) for other in knots))
-
-
-def plain_counted(web):
-    sizes = [len(knot) for knot in plain_knots(web)]
-    return [sizes.count(many) for many in range(max(sizes) + 1)]
 
 
 def within(depth, core, make):
@@ -110,21 +99,22 @@ ATOMS = (-1, 0, 1, 2, True, False, None, "", "0", "01", SIXTY, -SIXTY, (), [], (
 
 def spoiled(thing):
     """All things that are one small step away from a thing: another value somewhere within, a tuple made
-    a list, one part fewer, one twice, two exchanged."""
+    a list or the other way about, one part fewer or more, one twice, two exchanged."""
     found = list(ATOMS)
     if not isinstance(thing, (tuple, list)):
         return found
+    kind = type(thing)
     parts = list(thing)
-    found.append(parts)
+    found.append(tuple(parts) if kind is list else list(parts))
     for i in range(len(parts)):
-        found.append(tuple(parts[:i] + parts[i + 1:]))
-        found.append(tuple(parts[:i + 1] + parts[i:]))
+        found.append(kind(parts[:i] + parts[i + 1:]))
+        found.append(kind(parts[:i + 1] + parts[i:]))
         for other in spoiled(parts[i]):
-            found.append(tuple(parts[:i] + [other] + parts[i + 1:]))
+            found.append(kind(parts[:i] + [other] + parts[i + 1:]))
         for j in range(i):
             swapped = list(parts)
             swapped[i], swapped[j] = parts[j], parts[i]
-            found.append(tuple(swapped))
+            found.append(kind(swapped))
     for atom in ATOMS:
-        found.append(tuple(parts + [atom]))
+        found.append(kind(parts + [atom]))
     return found

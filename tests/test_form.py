@@ -22,6 +22,15 @@ NODES = (ast.Module, ast.ImportFrom, ast.alias, ast.FunctionDef, ast.ClassDef, a
          ast.ListComp, ast.comprehension, ast.JoinedStr, ast.FormattedValue, ast.Lambda, ast.Name, ast.expr_context,
          ast.boolop, ast.operator, ast.unaryop, ast.cmpop)
 
+KEYWORDS = {"sorted": {"key", "reverse"}, "min": {"key", "default"}, "max": {"key", "default"}, "sum": {"start"},
+            "enumerate": {"start"}, "zip": {"strict"}}
+
+# Those that are walked where they stand, and what may walk them.
+WALKED = {"zip", "enumerate", "reversed", "range"}
+WALKERS = {"list", "tuple", "dict", "sorted", "sum", "any", "all", "enumerate", "zip", "min", "max"}
+
+OF_PYTHONS_VALUES = {name for kind in (str, int, list, dict, set, bytes, tuple) for name in dir(kind)}
+
 WORDS = re.compile(r"\b(type|typing|typing_extensions|enum|Enum|IntEnum|StrEnum|Flag|IntFlag|Generic|Protocol|ABC"
                    r"|ABCMeta|namedtuple|NamedTuple|TypedDict|TYPE_CHECKING|abstractmethod)\b"
                    r"|dataclass|overload|contextmanager")
@@ -49,6 +58,15 @@ def bound_names(tree):
         elif isinstance(node, ast.ExceptHandler) and node.name:
             names.add(node.name)
     return names
+
+
+def called(node):
+    """The plain name that a node calls, or None."""
+    return node.func.id if isinstance(node, ast.Call) and isinstance(node.func, ast.Name) else None
+
+
+def parents(tree):
+    return {child: node for node in ast.walk(tree) for child in ast.iter_child_nodes(node)}
 
 
 class Form(unittest.TestCase):
@@ -135,6 +153,85 @@ class Form(unittest.TestCase):
                 elif isinstance(node, ast.Assign):
                     top.append(node.targets[0].id)
             self.assertEqual(len(top), len(set(top)), name)
+
+    def test_no_local_is_called_like_a_class_or_an_import_of_its_file(self):
+        for name, tree in trees():
+            taken = {node.name for node in tree.body if isinstance(node, ast.ClassDef)}
+            for node in tree.body:
+                if isinstance(node, ast.ImportFrom):
+                    taken |= {alias.asname or alias.name for alias in node.names}
+            for node in ast.walk(tree):
+                if isinstance(node, ast.arg):
+                    self.assertNotIn(node.arg, taken, (name, node.lineno))
+                elif isinstance(node, ast.Name) and isinstance(node.ctx, ast.Store):
+                    self.assertNotIn(node.id, taken, (name, node.lineno))
+
+    def test_imports_never_go_round(self):
+        drawn = {path.stem: {node.module.split(".")[1] for node in ast.walk(ast.parse(path.read_text()))
+                             if isinstance(node, ast.ImportFrom)} for path in files()}
+        while drawn:
+            free = [name for name in drawn if not drawn[name] & set(drawn)]
+            self.assertNotEqual(free, [], drawn)
+            for name in free:
+                drawn.pop(name)
+
+    def test_imports_are_from_the_file_that_defines_the_name(self):
+        for name, tree in trees():
+            for node in tree.body:
+                if isinstance(node, ast.ImportFrom):
+                    source = ast.parse((PACKAGE / (node.module.split(".")[1] + ".py")).read_text())
+                    defined = {inner.name for inner in source.body if isinstance(inner, (ast.FunctionDef, ast.ClassDef))}
+                    defined |= {inner.targets[0].id for inner in source.body if isinstance(inner, ast.Assign)}
+                    for alias in node.names:
+                        self.assertIn(alias.name, defined, (name, node.lineno))
+
+    def test_keywords(self):
+        for name, tree in trees():
+            for node in ast.walk(tree):
+                if isinstance(node, ast.Call) and node.keywords:
+                    self.assertIn(called(node), KEYWORDS, (name, node.lineno))
+                    self.assertLessEqual({word.arg for word in node.keywords}, KEYWORDS[called(node)])
+
+    def test_pythons_own_are_called_and_not_kept(self):
+        for name, tree in trees():
+            above = parents(tree)
+            for node in ast.walk(tree):
+                if not isinstance(node, ast.Name) or node.id not in OWN_NAMES:
+                    continue
+                user = above[node]
+                if isinstance(user, ast.Tuple):
+                    user = above[user]
+                at = (name, node.lineno)
+                self.assertIsInstance(user, (ast.Call, ast.ClassDef, ast.Raise, ast.ExceptHandler, ast.keyword), at)
+                if isinstance(user, ast.Call) and user.func is not node:
+                    self.assertEqual(called(user), "isinstance", at)
+
+    def test_walked_at_once(self):
+        for name, tree in trees():
+            above = parents(tree)
+            for node in ast.walk(tree):
+                if called(node) in WALKED:
+                    user = above[node]
+                    if not isinstance(user, (ast.For, ast.comprehension)):
+                        self.assertIn(called(user), WALKERS, (name, node.lineno))
+
+    def test_powers_have_a_written_exponent(self):
+        for name, tree in trees():
+            for node in ast.walk(tree):
+                if isinstance(node, (ast.BinOp, ast.AugAssign)) and isinstance(node.op, ast.Pow):
+                    exponent = node.right if isinstance(node, ast.BinOp) else node.value
+                    self.assertIsInstance(exponent, ast.Constant, (name, node.lineno))
+
+    def test_own_methods_and_values(self):
+        methods, values = set(), set()
+        for name, tree in trees():
+            for node in ast.walk(tree):
+                if isinstance(node, ast.ClassDef):
+                    methods |= {inner.name for inner in node.body if isinstance(inner, ast.FunctionDef)}
+                if isinstance(node, ast.Attribute) and isinstance(node.ctx, ast.Store):
+                    values.add(node.attr)
+        self.assertEqual(methods & values, set())
+        self.assertEqual((methods | values) & (OF_PYTHONS_VALUES - {"__init__"}), set())
 
     def test_methods(self):
         for name, tree in trees():
