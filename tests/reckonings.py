@@ -1,4 +1,5 @@
-"""Second reckonings to hold the program's answers against: plain walks over all sets of places and all hueings."""
+"""Second reckonings to hold the program's answers against: plain walks over all sets of places and all hueings,
+and papers looked over word by word."""
 
 from fractions import Fraction
 from functools import lru_cache
@@ -41,18 +42,22 @@ def grown_most(web):
 
 
 def remembered_most(web):
-    """The most by taking or leaving each place in turn, and remembering of each set of places left what it came to:
-    for webs of many places and any ties."""
+    return remembered_heaviest(web, (1,) * web[0])
+
+
+def remembered_heaviest(web, weights):
+    """The greatest weight of a knot by taking or leaving each place in turn, and remembering of each set of places left
+    what it came to: for webs of many places and any ties."""
     near = [{b for b in range(web[0]) if are_tied(web, a, b)} for a in range(web[0])]
 
     @lru_cache(maxsize=None)
-    def most_of(left):
+    def heaviest_of(left):
         if not left:
             return 0
         rest = left - {min(left)}
-        return max(most_of(rest), 1 + most_of(rest & near[min(left)]))
+        return max(heaviest_of(rest), weights[min(left)] + heaviest_of(rest & near[min(left)]))
 
-    return most_of(frozenset(range(web[0])))
+    return heaviest_of(frozenset(range(web[0])))
 
 
 def plain_is_hueing(web, thing):
@@ -123,3 +128,55 @@ def plain_are_weights(web, thing):
     if not all(plain_is_fraction(weight) and weight[0] >= 0 for weight in thing):
         return False
     return all(sum(Fraction(*thing[place]) for place in apart) <= 1 for apart in plain_apart_sets(web))
+
+
+def plain_part(web, places):
+    """The part by some places, numbered anew in their order."""
+    return web_of(len(places), [(i, j) for i, j in all_pairs(len(places)) if are_tied(web, places[i], places[j])])
+
+
+def places_left(web, v):
+    """The places but v, and those near v."""
+    return [a for a in range(web[0]) if a != v], [a for a in range(web[0]) if are_tied(web, a, v)]
+
+
+def begins_with(thing, word, length):
+    return type(thing) is tuple and len(thing) == length and type(thing[0]) is str and thing[0] == word
+
+
+def plain_is_paper(web, k, thing):
+    if begins_with(thing, "few", 1):
+        return web[0] < k
+    if begins_with(thing, "hues", 2):
+        return plain_is_hueing(web, thing[1]) and len(set(thing[1])) < k
+    if not begins_with(thing, "place", 4) or k < 1 or type(thing[1]) is not int or thing[1] not in range(web[0]):
+        return False
+    without, near = places_left(web, thing[1])
+    return (plain_is_paper(plain_part(web, without), k, thing[2])
+            and plain_is_paper(plain_part(web, near), k - 1, thing[3]))
+
+
+def plain_weight(weights, places):
+    return sum(weights[place] for place in places)
+
+
+def plain_heaviest(web, weights):
+    return max(plain_weight(weights, knot) for knot in plain_knots(web))
+
+
+def plain_is_heavy_paper(web, weights, w, thing):
+    if begins_with(thing, "all", 1):
+        return sum(weights) <= w
+    if begins_with(thing, "hues", 2):
+        if not plain_is_hueing(web, thing[1]):
+            return False
+        return sum(max(weights[place] for place in range(web[0]) if thing[1][place] == hue)
+                   for hue in set(thing[1])) <= w
+    if not begins_with(thing, "place", 4) or type(thing[1]) is not int or thing[1] not in range(web[0]):
+        return False
+    weight = weights[thing[1]]
+    if weight > w:
+        return False
+    without, near = places_left(web, thing[1])
+    return (plain_is_heavy_paper(plain_part(web, without), [weights[a] for a in without], w, thing[2])
+            and plain_is_heavy_paper(plain_part(web, near), [weights[a] for a in near], w - weight, thing[3]))

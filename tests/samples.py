@@ -1,6 +1,6 @@
 """Webs and other things to ask about."""
 
-from itertools import combinations
+from itertools import combinations, product
 
 SIXTY = int("7" * 60)
 
@@ -97,10 +97,15 @@ def oddities():
 ATOMS = (-1, 0, 1, 2, True, False, None, "", "0", "01", SIXTY, -SIXTY, (), [], (0, 1), [0, 1], (0,), ((0, 1),))
 
 
-def spoiled(thing):
+# What stands in papers of either sort, to be put where something else belongs.
+PAPER_ATOMS = ATOMS + ("few", "hues", "place", "all", "Few", "few ", ("few",), ("all",), ("hues", ()), ("hues", (0,)),
+                       ("hues", (0, 1)), ("place", 0, ("few",), ("few",)), ["few"], ("few", "few"))
+
+
+def spoiled(thing, atoms=ATOMS):
     """All things that are one small step away from a thing: another value somewhere within, a tuple made
     a list or the other way about, one part fewer or more, one twice, two exchanged."""
-    found = list(ATOMS)
+    found = list(atoms)
     if not isinstance(thing, (tuple, list)):
         return found
     kind = type(thing)
@@ -109,12 +114,36 @@ def spoiled(thing):
     for i in range(len(parts)):
         found.append(kind(parts[:i] + parts[i + 1:]))
         found.append(kind(parts[:i + 1] + parts[i:]))
-        for other in spoiled(parts[i]):
+        for other in spoiled(parts[i], atoms):
             found.append(kind(parts[:i] + [other] + parts[i + 1:]))
         for j in range(i):
             swapped = list(parts)
             swapped[i], swapped[j] = parts[j], parts[i]
             found.append(kind(swapped))
-    for atom in ATOMS:
+    for atom in atoms:
         found.append(kind(parts + [atom]))
     return found
+
+
+def candidate_papers(n, plainest):
+    """All things in the form of papers of a web of n places, right or not: each hueing, each place, and behind it
+    each such thing for one place less, or for fewer where they can be told apart."""
+    found = [(plainest,)] + [("hues", hueing) for hueing in product(range(max(n, 1)), repeat=n)]
+    if n > 0:
+        less = candidate_papers(n - 1, plainest)
+        fewer = sorted({other for many in range(n) for other in candidate_papers(many, plainest)}, key=repr)
+        found += [("place", v, paper, other) for v in range(n) for paper in less for other in fewer]
+    return found
+
+
+def branched_paper(web, plainest, is_done, pick):
+    """A paper that branches at the place pick(how many are left) down to where is_done(places, taken) tells that the
+    plainest one will do: places are those left, taken those gone with, both as the whole web numbers them."""
+    def of_part(places, taken):
+        if is_done(places, taken):
+            return (plainest,)
+        v = places[pick(len(places))]
+        without = [a for a in places if a != v]
+        near = [a for a in places if are_tied(web, a, v)]
+        return ("place", places.index(v), of_part(without, taken), of_part(near, taken + [v]))
+    return of_part(list(range(web[0])), [])

@@ -1,9 +1,8 @@
 """Hues: a number for each place of a web, such that tied places have unlike ones."""
 
-from tiefold.knots import all_near
 from tiefold.most import most
 from tiefold.things import is_tuple_of
-from tiefold.webs import is_place, near
+from tiefold.webs import all_near, is_place
 
 
 def is_hueing(web, thing):
@@ -16,9 +15,10 @@ def is_hueing(web, thing):
 
 
 def hued_along(web, order):
+    nears = all_near(web)
     hues = {}
     for place in order:
-        hues[place] = least_free([hues[other] for other in near(web, place) if other in hues])
+        hues[place] = least_free([hues[other] for other in nears[place] if other in hues])
     return tuple([hues[place] for place in range(web[0])])
 
 

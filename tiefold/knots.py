@@ -1,7 +1,7 @@
 """Knots: rising tuples of places of a web, each two of them tied."""
 
 from tiefold.things import pairs_of, rises
-from tiefold.webs import is_place, marked_ties, near
+from tiefold.webs import all_near, is_place, marked_ties
 
 
 def is_knot(web, thing):
@@ -26,10 +26,6 @@ def counted(web):
     for knot in knots:
         counts[len(knot)] += 1
     return counts
-
-
-def all_near(web):
-    return [near(web, place) for place in range(web[0])]
 
 
 # Each knot comes once: from the one without its greatest place, when that place's turn comes.

@@ -34,6 +34,11 @@ def near(web, place):
     return [other for other in range(web[0]) if are_tied(web[1], place, other)]
 
 
+def all_near(web):
+    marked = (web[0], marked_ties(web))
+    return [near(marked, place) for place in range(web[0])]
+
+
 # The ties come as a tuple or as the keys of a dict, which is quicker where many pairs are asked about.
 def are_tied(ties, a, b):
     return (min(a, b), max(a, b)) in ties
@@ -45,7 +50,7 @@ def marked_ties(web):
 
 def turned(web):
     ties = marked_ties(web)
-    return (web[0], tuple([pair for pair in pairs_of(list(range(web[0]))) if pair not in ties]))
+    return web_where(list(range(web[0])), lambda a, b: not are_tied(ties, a, b))
 
 
 def part(web, places):
@@ -59,5 +64,10 @@ def moved(web, order):
 # Some places that rise and all places in any order are numbered anew alike: the new place i is the old places[i].
 def numbered_anew(web, places):
     ties = marked_ties(web)
-    pairs = pairs_of(list(range(len(places))))
-    return (len(places), tuple([pair for pair in pairs if are_tied(ties, places[pair[0]], places[pair[1]])]))
+    return web_where(places, lambda a, b: are_tied(ties, a, b))
+
+
+# Place i of the web stands for row[i]; the pairs come rising, whatever the row holds.
+def web_where(row, tied):
+    pairs = pairs_of(list(range(len(row))))
+    return (len(row), tuple([pair for pair in pairs if tied(row[pair[0]], row[pair[1]])]))
