@@ -180,3 +180,47 @@ def plain_is_heavy_paper(web, weights, w, thing):
     without, near = places_left(web, thing[1])
     return (plain_is_heavy_paper(plain_part(web, without), [weights[a] for a in without], w, thing[2])
             and plain_is_heavy_paper(plain_part(web, near), [weights[a] for a in near], w - weight, thing[3]))
+
+
+def plain_below(n, pairs):
+    """Of each place all that lies below it, by going down step by step as long as something new comes."""
+    found = []
+    for place in range(n):
+        under = set()
+        step = {a for a, b in pairs if b == place}
+        while step - under:
+            under |= step
+            step = {a for a, b in pairs if b in step}
+        found.append(under)
+    return found
+
+
+def named_by_form(near):
+    """The same web with its places in an order that hangs on what is near them, so that webs that are alike but for
+    the order of their places mostly come out equal."""
+    form = [0] * len(near)
+    for _ in range(4):
+        seen = [(form[place], sorted(form[other] for other in row)) for place, row in enumerate(near)]
+        form = [sorted(seen).index(one) for one in seen]
+    order = sorted(range(len(near)), key=lambda place: form[place])
+    return tuple(tuple(sorted(order.index(other) for other in near[place])) for place in order)
+
+
+def grown_forcing(a, b):
+    """The least number of places that force a knot of a or an apart set of b: all webs that have neither are grown
+    place by place, until there is none."""
+    webs = {()}
+    n = 0
+    while webs:
+        grown = set()
+        for near in webs:
+            for code in range(2 ** n):
+                row = [place for place in range(n) if code >> place & 1]
+                rest = [place for place in range(n) if not code >> place & 1]
+                if not (any(all(y in near[x] for x, y in combinations(some, 2)) for some in combinations(row, a - 1))
+                        or any(all(y not in near[x] for x, y in combinations(some, 2))
+                               for some in combinations(rest, b - 1))):
+                    grown.add(named_by_form([near[place] + ((n,) if place in row else ()) for place in range(n)] + [row]))
+        webs = grown
+        n += 1
+    return n

@@ -38,6 +38,14 @@ def clumps(n):
     return web_of(n, [(a, b) for a, b in all_pairs(n) if a // 3 == b // 3])
 
 
+def numbers(seed):
+    """Numbers without any pattern, the same ones each time."""
+    state = seed * 7907 + 11
+    while True:
+        state = (state * 1103515245 + 12345) % 2147483648
+        yield state // 65536
+
+
 def mixed(n, seed):
     """A web without any pattern, the same one each time."""
     pairs = []

@@ -222,6 +222,59 @@ class Form(unittest.TestCase):
                     exponent = node.right if isinstance(node, ast.BinOp) else node.value
                     self.assertIsInstance(exponent, ast.Constant, (name, node.lineno))
 
+    def test_no_annotations(self):
+        for name, tree in trees():
+            for node in ast.walk(tree):
+                if isinstance(node, ast.FunctionDef):
+                    self.assertIsNone(node.returns, (name, node.lineno))
+                elif isinstance(node, ast.arg):
+                    self.assertIsNone(node.annotation, (name, node.lineno))
+
+    def test_sets_are_neither_kept_nor_walked(self):
+        for name, tree in trees():
+            above = parents(tree)
+            for node in ast.walk(tree):
+                if isinstance(node, ast.Set) or called(node) in ("set", "frozenset"):
+                    user = above[node]
+                    while isinstance(user, ast.BinOp):
+                        user = above[user]
+                    if not isinstance(user, ast.Compare):
+                        self.assertIn(called(user), ("sorted", "len"), (name, node.lineno))
+
+    def test_no_two_lambdas_with_the_same_parameters_on_one_line(self):
+        for name, tree in trees():
+            seen = [(node.lineno, [arg.arg for arg in node.args.args]) for node in ast.walk(tree)
+                    if isinstance(node, ast.Lambda)]
+            for one in seen:
+                self.assertEqual(seen.count(one), 1, (name, one))
+
+    def test_texts(self):
+        for name, tree in trees():
+            for node in ast.walk(tree):
+                if isinstance(node, ast.Constant) and isinstance(node.value, str):
+                    self.assertNotIn("%", node.value, (name, node.lineno))
+
+    def test_errors_are_made_on_the_spot_and_taken_by_their_names(self):
+        for name, tree in trees():
+            for node in ast.walk(tree):
+                if isinstance(node, ast.Raise):
+                    self.assertIsInstance(node.exc, ast.Call, (name, node.lineno))
+                elif isinstance(node, ast.ExceptHandler):
+                    self.assertIsNotNone(node.type, (name, node.lineno))
+                    self.assertFalse({"Exception", "TypeError"} & {inner.id for inner in ast.walk(node.type)
+                                                                   if isinstance(inner, ast.Name)}, (name, node.lineno))
+
+    def test_classes_stand_at_the_top_with_methods_alone(self):
+        for name, tree in trees():
+            for node in ast.walk(tree):
+                if isinstance(node, ast.ClassDef):
+                    self.assertIn(node, tree.body, (name, node.lineno))
+                    self.assertLessEqual(len(node.bases), 1, (name, node.lineno))
+                    methods = [inner.name for inner in node.body if isinstance(inner, ast.FunctionDef)]
+                    self.assertEqual(len(methods), len(set(methods)), (name, node.lineno))
+                    for inner in node.body:
+                        self.assertIsInstance(inner, (ast.FunctionDef, ast.Pass), (name, inner.lineno))
+
     def test_own_methods_and_values(self):
         methods, values = set(), set()
         for name, tree in trees():

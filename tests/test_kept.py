@@ -3,7 +3,7 @@ from copy import deepcopy
 from itertools import permutations
 
 from reckonings import plain_is_paper, plain_most
-from samples import SIXTY, all_pairs, loose, mixed, oddities, ring, shapes, web_of, webs_up_to, whole
+from samples import SIXTY, all_pairs, loose, mixed, numbers, oddities, ring, shapes, web_of, webs_up_to, whole
 from tiefold.errors import Loose, NoPlace, Tied, TieError
 from tiefold.kept import Kept
 from tiefold.knots import is_knot
@@ -12,14 +12,6 @@ from tiefold.papers import is_paper
 
 ASKED = ("web", "most", "knot", "paper")
 NO_PLACES = (-1, -2, SIXTY, -SIXTY, True, False, None, "", "0", "1", (), [], (0,), [0], (0, 1), [0, 1], ((0, 1),))
-
-
-def numbers(seed):
-    """Numbers without any pattern, the same ones each time."""
-    state = seed * 7907 + 11
-    while True:
-        state = (state * 1103515245 + 12345) % 2147483648
-        yield state // 65536
 
 
 class Model:

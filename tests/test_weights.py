@@ -4,7 +4,7 @@ from copy import deepcopy
 from reckonings import (plain_heaviest, plain_is_heavy_paper, plain_knots, plain_most, plain_weight,
                         remembered_heaviest)
 from samples import (PAPER_ATOMS, SIXTY, all_pairs, branched_paper, candidate_papers, clumps, halves, loose, mixed,
-                     oddities, ring, shapes, spoiled, star, walked_webs, web_of, webs_up_to, whole, within)
+                     numbers, oddities, ring, shapes, spoiled, star, walked_webs, web_of, webs_up_to, whole, within)
 from tiefold.hues import fewest_hues
 from tiefold.knots import is_knot
 from tiefold.most import most
@@ -18,12 +18,8 @@ GREAT = 10 ** 30
 
 def drawn_weights(n, seed):
     """Weights from 0 to 1000 without any pattern, the same ones each time."""
-    weights = []
-    state = seed * 6007 + n
-    for _ in range(n):
-        state = (state * 1103515245 + 12345) % 2147483648
-        weights.append(state // 65536 % 1001)
-    return tuple(weights)
+    drawn = numbers(100 * seed + n)
+    return tuple(next(drawn) % 1001 for _ in range(n))
 
 
 def sorts_of_weights(n):
