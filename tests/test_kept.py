@@ -309,9 +309,11 @@ class Rows(Held):
             for seed in range(3):
                 drawn = numbers(10 * n + seed)
                 kept, model = Kept(n), Model(n)
+                self.check(kept, loose(n), orders[next(drawn) % len(orders)])
                 for _ in range(40):
                     self.step(kept, model, drawn)
-                    for _ in range(next(drawn) % 3):
+                    # In the first row it is not always asked between two deeds, in the others once or twice.
+                    for _ in range(next(drawn) % 3 if seed == 0 else 1 + next(drawn) % 2):
                         self.check(kept, web_of(n, model.ties()), orders[next(drawn) % len(orders)])
                 self.check(kept, web_of(n, model.ties()))
                 while len(model.past) > 1:
